@@ -1,0 +1,1 @@
+"""Many requests and answers at once over one stream of bytes each way."""

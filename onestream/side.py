@@ -1,0 +1,52 @@
+"""What one side keeps of the stream and of all its exchanges."""
+
+from onestream.exchange import Exchange
+from onestream.frames import OF_ALL, credit_frame
+
+CREDIT_OF_ALL_AT_FIRST = 65536
+OWED_OF_ALL_MOST = 32768
+
+
+class Side:
+    def __init__(self, which):
+        self.which = which
+        self.dead = False
+        self.other_going = False
+        self.exchanges = {}
+        self.to_ask = which
+        # Whose turn was last; 0 stands before every number, so the least has the first turn.
+        self.turn = 0
+        # The frames that are to be sent ahead of data, the oldest first.
+        self.first = []
+        self.credit = CREDIT_OF_ALL_AT_FIRST
+        self.left = CREDIT_OF_ALL_AT_FIRST
+        self.owed = 0
+
+    def add_exchange(self, number):
+        self.exchanges[number] = Exchange()
+
+    def is_ours(self, number):
+        return number % 2 == self.which % 2
+
+    def ours_there(self):
+        return len([number for number in self.exchanges if self.is_ours(number)])
+
+    def give_back(self, size):
+        self.owed += size
+        if self.owed >= OWED_OF_ALL_MOST:
+            self.left += self.owed
+            self.first.append(credit_frame(OF_ALL, self.owed))
+            self.owed = 0
+
+    # What nobody can take any more must be given back, or the credit of all would dry up.
+    def lose(self, number):
+        lost = self.exchanges.pop(number)
+        self.give_back(len(lost.untaken))
+
+    def drop_if_done(self, number):
+        if self.exchanges[number].nothing_to_do():
+            self.exchanges.pop(number)
+
+    def drop_done(self):
+        for number in list(self.exchanges):
+            self.drop_if_done(number)
