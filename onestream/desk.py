@@ -1,18 +1,25 @@
 """The interface: a list of calls on one new side in, the list of their answers out."""
 
-from onestream.handling import ask, put, stop, take
+from onestream.handling import ask, look, put, stop, take
+from onestream.receiving import came
 from onestream.refusals import BAD_ARGUMENT, refused
 from onestream.sending import out
 from onestream.side import Side
+from onestream.stream import count, over, still
 
 BEGIN = 1
 ASK = 2
 PUT = 3
 TAKE = 4
 STOP = 5
+OUT = 6
+CAME = 7
+STILL = 8
+OVER = 9
+LOOK = 10
 
 # How many whole numbers stand behind a call's own number, ahead of its bytes.
-HOW_MANY_NUMBERS = {1: 1, 2: 0, 3: 2, 4: 2, 5: 2, 6: 1}
+HOW_MANY_NUMBERS = {1: 1, 2: 0, 3: 2, 4: 2, 5: 2, 6: 1, 7: 0, 8: 1, 9: 0, 10: 1, 11: 0}
 
 
 class Line:
@@ -36,8 +43,18 @@ class Line:
             return take(self.side, numbers[0], numbers[1])
         if call == STOP:
             return stop(self.side, numbers[0], numbers[1])
-        # No call but out is left, 6.
-        return out(self.side, numbers[0])
+        if call == OUT:
+            return out(self.side, numbers[0])
+        if call == CAME:
+            return came(self.side, what)
+        if call == STILL:
+            return still(self.side, numbers[0])
+        if call == OVER:
+            return over(self.side)
+        if call == LOOK:
+            return look(self.side, numbers[0])
+        # No call but count is left, 11.
+        return count(self.side)
 
 
 def answers(calls):
@@ -49,7 +66,7 @@ def answers(calls):
         behind = at + 1 + HOW_MANY_NUMBERS[call]
         numbers = calls[at + 1:behind]
         what = []
-        if call == PUT:
+        if call in (PUT, CAME):
             what = calls[behind + 1:behind + 1 + calls[behind]]
             behind = behind + 1 + len(what)
         told = line.answer(call, numbers, what)

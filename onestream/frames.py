@@ -5,6 +5,9 @@ HEAD_SIZE = 8
 DATA = 1
 CREDIT = 2
 STOPPED = 3
+STILL_ASKED = 4
+STILL = 5
+GOING = 6
 
 # The number that stands in a frame of all exchanges together.
 OF_ALL = 0
@@ -28,3 +31,15 @@ def credit_frame(number, more):
 
 def stopped_frame(number, why):
     return frame_bytes(STOPPED, 0, number, number_bytes(why, 4))
+
+
+def still_asked_frame(token):
+    return frame_bytes(STILL_ASKED, 0, OF_ALL, number_bytes(token, 8))
+
+
+def still_frame(token):
+    return frame_bytes(STILL, 0, OF_ALL, number_bytes(token, 8))
+
+
+def going_frame(greatest):
+    return frame_bytes(GOING, 0, OF_ALL, number_bytes(greatest, 4))

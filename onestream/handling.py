@@ -1,4 +1,4 @@
-"""The calls that handle one exchange: ask, put, take, stop."""
+"""The calls that handle one exchange: ask, put, take, stop, look."""
 
 from onestream.frames import credit_frame, stopped_frame
 from onestream.refusals import BAD_ARGUMENT, NO_MORE, NO_ROOM, NOT_THERE, refused
@@ -71,3 +71,18 @@ def stop(side, number, why):
     side.lose(number)
     side.first.append(stopped_frame(number, why))
     return [0]
+
+
+def look(side, number):
+    exchange = side.exchanges.get(number)
+    if exchange is None:
+        return refused(NOT_THERE)
+    last_came = 1 if exchange.last_came else 0
+    return [0, len(exchange.waiting), how_far_ended(exchange), exchange.credit, len(exchange.untaken), last_came,
+            exchange.left]
+
+
+def how_far_ended(exchange):
+    if exchange.last_sent:
+        return 2
+    return 1 if exchange.ended else 0

@@ -6,6 +6,8 @@ from onestream.side import Side
 
 GREATEST = 18446744073709551615
 ASK = [2]
+OVER = [9]
+COUNT = [11]
 
 
 def begin(which):
@@ -28,51 +30,95 @@ def out(most):
     return [6, most]
 
 
+def came(*frames):
+    return [7, len(joined(frames))] + joined(frames)
+
+
+def still(token):
+    return [8, token]
+
+
+def look(number):
+    return [10, number]
+
+
+def joined(rows):
+    return [number for row in rows for number in row]
+
+
 def said(*calls):
     """The answers to these calls, a list for each."""
-    flat = [number for call in calls for number in call]
-    told = answers(flat)
+    flat = joined(calls)
+    if len(flat) > 16000 or len(calls) > 1000 or not calls:
+        raise AssertionError("the interface allows no such list")
+    given = answers(flat)
     rows = []
-    while told:
-        rows.append(told[1:1 + told[0]])
-        if len(rows[-1]) != told[0] or told[0] < 1:
+    at = 0
+    while at < len(given):
+        rows.append(given[at + 1:at + 1 + given[at]])
+        if len(rows[-1]) != given[at] or given[at] < 1:
             raise AssertionError("an answer's count is wrong")
-        told = told[1 + told[0]:]
+        at += 1 + given[at]
     if len(rows) != len(calls):
         raise AssertionError("not one answer for each call")
     return rows
 
 
+def frame(kind, flags, number, body):
+    """A frame's bytes, written apart from the program; it may be one that is none."""
+    return list(len(body).to_bytes(2, "big")) + [kind, flags] + list(number.to_bytes(4, "big")) + body
+
+
 def data(number, what, last=0):
-    """A data frame's bytes, written apart from the program."""
-    return list(len(what).to_bytes(2, "big")) + [1, last] + list(number.to_bytes(4, "big")) + what
+    return frame(1, last, number, what)
 
 
 def credit(number, more):
-    return [0, 4, 2, 0] + list(number.to_bytes(4, "big")) + list(more.to_bytes(4, "big"))
+    return frame(2, 0, number, list(more.to_bytes(4, "big")))
 
 
 def stopped(number, why):
-    return [0, 4, 3, 0] + list(number.to_bytes(4, "big")) + list(why.to_bytes(4, "big"))
+    return frame(3, 0, number, list(why.to_bytes(4, "big")))
+
+
+def still_asked(token):
+    return frame(4, 0, 0, list(token.to_bytes(8, "big")))
+
+
+def still_answered(token):
+    return frame(5, 0, 0, list(token.to_bytes(8, "big")))
+
+
+def going(number):
+    return frame(6, 0, 0, list(number.to_bytes(4, "big")))
 
 
 def sent(*frames):
     """What out answers when it sends these frames."""
-    whole = [byte for frame in frames for byte in frame]
-    return [len(whole)] + whole
+    return [len(joined(frames))] + joined(frames)
 
 
-def pieces(told):
+def told(*things):
+    """What came answers when it tells these things."""
+    return [len(things)] + joined(things)
+
+
+def asked_anew(numbers):
+    """What is told of the other's numbers when each is asked anew."""
+    return [[1, number] for number in numbers]
+
+
+def pieces(given):
     """Of each frame in an answer of out: kind, flags, number, the body's length."""
-    if told[0] != len(told) - 1:
+    if given[0] != len(given) - 1:
         raise AssertionError("out's count is wrong")
     rows = []
     at = 1
-    while at < len(told):
-        size = told[at] * 256 + told[at + 1]
-        rows.append((told[at + 2], told[at + 3], int.from_bytes(told[at + 4:at + 8], "big"), size))
+    while at < len(given):
+        size = given[at] * 256 + given[at + 1]
+        rows.append((given[at + 2], given[at + 3], int.from_bytes(given[at + 4:at + 8], "big"), size))
         at += 8 + size
-    if at != len(told):
+    if at != len(given):
         raise AssertionError("a frame is not whole")
     return rows
 

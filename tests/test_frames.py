@@ -1,8 +1,10 @@
-"""How frames are written."""
+"""How frames are written, and read."""
 
 import unittest
 
-from onestream.frames import credit_frame, data_frame, number_bytes, stopped_frame
+from onestream.frames import (credit_frame, data_frame, going_frame, number_bytes, still_asked_frame, still_frame,
+                              stopped_frame)
+from onestream.reading import number_of
 
 
 class Frames(unittest.TestCase):
@@ -23,6 +25,20 @@ class Frames(unittest.TestCase):
 
     def test_stopped(self):
         self.assertEqual(stopped_frame(4, 16909060), [0, 4, 3, 0, 0, 0, 0, 4, 1, 2, 3, 4])
+
+    def test_still(self):
+        self.assertEqual(still_asked_frame(72623859790382856), [0, 8, 4, 0, 0, 0, 0, 0, 1, 2, 3, 4, 5, 6, 7, 8])
+        self.assertEqual(still_frame(72623859790382856), [0, 8, 5, 0, 0, 0, 0, 0, 1, 2, 3, 4, 5, 6, 7, 8])
+        self.assertEqual(still_frame(18446744073709551615), [0, 8, 5, 0, 0, 0, 0, 0] + [255] * 8)
+
+    def test_going(self):
+        self.assertEqual(going_frame(16909060), [0, 4, 6, 0, 0, 0, 0, 0, 1, 2, 3, 4])
+
+    def test_numbers_are_read_as_they_are_written(self):
+        self.assertEqual(number_of([1, 2, 3, 4]), 16909060)
+        self.assertEqual(number_of([255] * 8), 18446744073709551615)
+        for value in (0, 1, 255, 256, 65535, 65536, 4294967295):
+            self.assertEqual(number_of(number_bytes(value, 8)), value)
 
 
 if __name__ == "__main__":
